@@ -1,0 +1,1 @@
+"""The rules of a pinball table: their text, its faults and their code."""
