@@ -8,9 +8,8 @@ MOST_STEPS = 16
 MOST_TIME = 65535
 
 
+# The shows' numbers by their names, and of the last show its lamps' places and how many steps it has.
 class Book:
-    """The shows' numbers by their names, and of the last show its lamps' places and how many steps it has."""
-
     def __init__(self):
         self.shows = {}
         self.lamps = []

@@ -14,9 +14,8 @@ LEFT_EMPTY = 9
 TOO_MANY_PARTS = 10
 
 
+# The first fault of a text.
 class Fault(ValueError):
-    """The first fault of a text."""
-
     def __init__(self, kind, place):
         self.kind = kind
         self.place = place

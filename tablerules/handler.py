@@ -46,9 +46,8 @@ ACTIONS = {
 }
 
 
+# An event's number, a mode's number and 1 (0: no mode), and the bytes of each action.
 class Handler:
-    """An event's number, a mode's number and 1 (0: no mode), and the bytes of each action."""
-
     def __init__(self, event, mode):
         self.event = event
         self.mode = mode

@@ -12,9 +12,8 @@ SIGNS = (" !\"#$\n&'()*+,-./0123456789:;<=>?@ABCDEFGHIJKLMNOPQRSTUVWXYZ"
          "[\\]^_`abcdefghijklmnopqrstuvwxyz{|}~")
 
 
+# A line's words, of which some are taken already; end is the place of its NL.
 class Line:
-    """A line's words, of which some are taken already; end is the place of its NL."""
-
     def __init__(self, words, places, end):
         self.words = words
         self.places = places

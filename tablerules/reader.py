@@ -13,9 +13,8 @@ BARRED_VARIABLES = ("left", "in", "closed")
 FIRST_MINE = 64
 
 
+# What rules' lines tell, for a table and the shows of a book.
 class Rules:
-    """What rules' lines tell, for a table and the shows of a book."""
-
     def __init__(self, table, shows):
         self.table = table
         self.name = ""

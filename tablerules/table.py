@@ -18,9 +18,8 @@ MOST_KICKS = 8
 MOST_KICK = 255
 
 
+# What a table's lines tell; no two of a sort share a place, so coils and switches are kept by theirs.
 class Table:
-    """What a table's lines tell; no two of a sort share a place, so coils and switches are kept by theirs."""
-
     def __init__(self):
         self.balls = 0
         self.switches = {}

@@ -114,6 +114,12 @@ class Code(unittest.TestCase):
             self.assertIsNone(node.args.vararg or node.args.kwarg, node.name)
             self.assertEqual(node.args.kwonlyargs + node.args.posonlyargs, [], node.name)
 
+    def test_classes(self):
+        for name, node in nodes(ast.ClassDef):
+            self.assertEqual({type(part) for part in node.body}, {ast.FunctionDef}, node.name)
+            self.assertLessEqual(len(node.bases), 1, node.name)
+            self.assertEqual(node.decorator_list, [], node.name)
+
     def test_assignments_loops_and_tries(self):
         for name, node in nodes(ast.Assign):
             self.assertEqual(len(node.targets), 1, name)

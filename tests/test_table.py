@@ -39,7 +39,8 @@ class Right(TableCase):
         self.assert_right(HEAD + PARTS + DRAIN)
 
     def test_fewest_lines(self):
-        self.assert_right(HEAD + "switch s at 0 close 1 open 1\ncoil c at 0 most 1 rest 1\ndevice d by c holds s drain\n")
+        self.assert_right(
+            HEAD + "switch s at 0 close 1 open 1\ncoil c at 0 most 1 rest 1\ndevice d by c holds s drain\n")
 
     def test_bounds_of_numbers(self):
         for switch in ("at 63 close 1 open 31", "at 4 close 31 open 1", "at 4 close 1 open 1 turned"):
@@ -78,7 +79,8 @@ class Right(TableCase):
             self.assert_right(f"table {name} balls 1\n" + PARTS + DRAIN)
 
     def test_drains_hold_together(self):
-        self.assert_right("table t balls 2\n" + PARTS + "device d by c0 holds s0 drain\ndevice e by c1 holds s1 drain\n")
+        self.assert_right(
+            "table t balls 2\n" + PARTS + "device d by c0 holds s0 drain\ndevice e by c1 holds s1 drain\n")
         self.assert_right("table t balls 1\n" + PARTS + "device d by c0 holds s0 s1 drain\ndevice e by c1 holds s2\n")
 
     def test_a_kicks_second_switch(self):
