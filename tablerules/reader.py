@@ -15,7 +15,8 @@ FIRST_MINE = 64
 
 # What rules' lines tell, for a table and the shows of a book.
 class Rules:
-    def __init__(self, table, shows):
+    def __init__(self, setting):
+        table = setting.table
         self.table = table
         self.name = ""
         self.last_sort = None
@@ -25,7 +26,7 @@ class Rules:
             "lamp": table.lamps,
             "coil": table.coils,
             "device": table.devices,
-            "show": shows,
+            "show": setting.shows,
             "variable": {},
             "timer": {},
             "signal": {},
@@ -86,11 +87,11 @@ def read_line(rules, line):
     rules.last_sort = sort
 
 
-def read_rules(table, shows, text):
+def read_rules(setting, text):
     """The rules of a right text for a table and the shows of a book."""
     if len(text) == 0:
         raise Fault(NOT_ENDED, 0)
-    rules = Rules(table, shows)
+    rules = Rules(setting)
     for span in line_spans(text):
         line = cut_line(text, span)
         read_line(rules, line)

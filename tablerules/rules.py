@@ -1,32 +1,39 @@
 """The calls."""
 
-from tablerules.book import read_book
 from tablerules.coding import rules_code
 from tablerules.fault import Fault
 from tablerules.reader import read_rules
-from tablerules.table import read_table
+from tablerules.refusal import CodeTooLong, FaultySetting, TooLong
+from tablerules.setting import MOST_BYTES, read_setting
 
-MOST_TABLE = 16384
-MOST_BYTES = 65536
-TOO_LONG = -2
 RULES_FAULT = -6
-TABLE_FAULT = -8
-CODE_TOO_LONG = -9
+
+
+def make_code(table, book, rules):
+    """The bytes of the code of right rules."""
+    made = rules_code(read_rules(read_setting(table, book, rules), rules))
+    if len(made) > MOST_BYTES:
+        raise CodeTooLong()
+    return made
 
 
 def judge(table, book, rules):
     """Whether the rules' text is right for the table and the book, or what its first fault is."""
-    if len(table) > MOST_TABLE or len(book) > MOST_BYTES or len(rules) > MOST_BYTES:
-        return [TOO_LONG]
     try:
-        setting = read_table(table)
-        shows = read_book(setting.lamps, book)
-    except Fault:
-        return [TABLE_FAULT]
-    try:
-        meant = read_rules(setting, shows, rules)
+        make_code(table, book, rules)
+    except (TooLong, FaultySetting, CodeTooLong) as refusal:
+        return [refusal.number]
     except Fault as fault:
         return [RULES_FAULT, fault.kind, fault.place]
-    if len(rules_code(meant)) > MOST_BYTES:
-        return [CODE_TOO_LONG]
     return [0]
+
+
+def code(table, book, rules):
+    """The code of the rules' text for the table and the book."""
+    try:
+        made = make_code(table, book, rules)
+    except (TooLong, FaultySetting, CodeTooLong) as refusal:
+        return [refusal.number]
+    except Fault:
+        return [RULES_FAULT]
+    return [0] + made

@@ -1,6 +1,6 @@
-"""Texts that the tests share, and how they are handed to judge."""
+"""Texts that the tests share, and how they are handed to the calls."""
 
-from tablerules.rules import judge
+from tablerules.rules import code, judge
 
 TABLE = """table demo balls 3
 switch trough_a at 0 close 2 open 3
@@ -49,6 +49,10 @@ def data(text):
 
 def judged(rules, table=TABLE, book=BOOK):
     return judge(data(table), data(book), data(rules))
+
+
+def coded(rules, table=TABLE, book=BOOK):
+    return code(data(table), data(book), data(rules))
 
 
 def marked(text):

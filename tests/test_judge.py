@@ -1,10 +1,9 @@
 """What of all judge's answers comes first, its bounds, and that it leaves what it is handed."""
 
-import contextlib
-import io
 import unittest
 
 from tablerules.rules import judge
+from tests.leaving import check_call
 from tests.samples import BOOK, DECLARED, TABLE, data, judged
 
 LAMPS = [f"lamp_{k:02d}_long" for k in range(50)]
@@ -123,34 +122,9 @@ class Leaves(unittest.TestCase):
         ("", "", ""),
     )
 
-    def test_what_is_handed_in_is_not_changed(self):
+    def test_what_is_handed_in_and_what_is_answered(self):
         for texts in self.CASES:
-            lists = [data(text) for text in texts]
-            judge(lists[0], lists[1], lists[2])
-            self.assertEqual(lists, [data(text) for text in texts])
-
-    def test_a_second_time_is_as_the_first(self):
-        for texts in self.CASES:
-            lists = [data(text) for text in texts]
-            first = judge(lists[0], lists[1], lists[2])
-            first_answer = list(first)
-            first.append(5)
-            self.assertEqual(judge(lists[0], lists[1], lists[2]), first_answer)
-            judged(DECLARED)
-            self.assertEqual(judge(lists[0], lists[1], lists[2]), first_answer)
-
-    def test_the_answer_is_a_list_of_whole_numbers(self):
-        for texts in self.CASES:
-            answer = judge(data(texts[0]), data(texts[1]), data(texts[2]))
-            self.assertIs(type(answer), list)
-            self.assertEqual({type(number) for number in answer}, {int})
-
-    def test_nothing_is_printed(self):
-        said = io.StringIO()
-        with contextlib.redirect_stdout(said), contextlib.redirect_stderr(said):
-            for texts in self.CASES:
-                judged(texts[2], table=texts[0], book=texts[1])
-        self.assertEqual(said.getvalue(), "")
+            check_call(self, judge, [data(text) for text in texts], lambda: judged(DECLARED))
 
 
 if __name__ == "__main__":

@@ -127,10 +127,15 @@ class Code(unittest.TestCase):
             self.assertEqual(node.orelse, [], name)
         for name, node in nodes(ast.Try):
             self.assertEqual(node.finalbody, [], name)
+        own = [node.name for name, node in nodes(ast.ClassDef) if node.bases and node.bases[0].id in ERRORS]
         for name, node in nodes(ast.ExceptHandler):
-            self.assertEqual(node.type.id, "Fault", name)
+            for error in node.type.elts if isinstance(node.type, ast.Tuple) else [node.type]:
+                self.assertIn(error.id, own, name)
         for name, node in nodes(ast.Raise):
             self.assertIsInstance(node.exc, ast.Call, name)
+            self.assertIn(node.exc.func.id, own, name)
+            if node.cause is not None:
+                self.assertIsNone(node.cause.value, name)
 
     def test_is_stands_beside_none_true_and_false(self):
         for name, node in nodes(ast.Compare):
