@@ -6,6 +6,8 @@ HANDLER_COUNT_BYTES = 2
 HEAD = (84, 82, 1, 0)
 COUNTED = ("var", "mine", "timer", "signal", "mode")
 NAMED_ONLY = ("timer", "signal", "mode")
+# A mine's number stands behind those of all vars that there may be.
+FIRST_VARIABLE = {"var": 0, "mine": 64}
 
 
 def name_code(name):

@@ -45,11 +45,11 @@ def part_code(names, line, word):
     return [NUMBER_PART] + number_code(signed_number(word), NUMBER_BYTES)
 
 
-def operands(word):
-    """How many expressions stand behind the part that the word begins."""
-    if word in OPERATORS:
+def operands(kind):
+    """How many expressions stand behind a part of this kind."""
+    if kind >= FIRST_OPERATOR:
         return 2
-    return 1 if word == "!" else 0
+    return 1 if kind == NOT_PART else 0
 
 
 def take_expression(names, line):
@@ -65,6 +65,7 @@ def take_expression(names, line):
         if parts == MOST_PARTS:
             raise Fault(TOO_MANY_PARTS, line.spot())
         parts += 1
-        code.extend(part_code(names, line, word))
-        wanted += operands(word) - 1
+        part = part_code(names, line, word)
+        code.extend(part)
+        wanted += operands(part[0]) - 1
     return code

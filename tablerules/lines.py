@@ -120,6 +120,16 @@ def check_bytes(text, start, end):
         before = byte
 
 
+def signs_of(row):
+    """The signs of bytes from 32 to 126."""
+    return "".join([SIGNS[byte - BLANK] for byte in row])
+
+
+def line_bytes(words):
+    """The bytes of the line of these words."""
+    return [BLANK + SIGNS.index(sign) for sign in " ".join(words)] + [LINE_END]
+
+
 def cut_line(text, span):
     """The line of a span, if it is ended and its bytes are right."""
     start = span[0]
@@ -129,7 +139,7 @@ def cut_line(text, span):
     check_bytes(text, start, end)
     if start == end:
         return Line([], [], end)
-    words = "".join([SIGNS[byte - BLANK] for byte in text[start:end]]).split(" ")
+    words = signs_of(text[start:end]).split(" ")
     places = []
     place = start
     for word in words:

@@ -1,5 +1,6 @@
 """Reading the text of rules."""
 
+from tablerules.coding import FIRST_VARIABLE
 from tablerules.fault import LEFT_EMPTY, NOT_ENDED, WRONG_WORD, Fault
 from tablerules.handler import take_action, take_guarded, take_handler
 from tablerules.lines import cut_line, line_spans, take_sort
@@ -9,29 +10,17 @@ MOST_OF_SORT = {"rules": 1, "var": 64, "mine": 32, "timer": 16, "signal": 64, "m
 MOST_ACTIONS = 32
 # Words of expressions, where a variable's name stands by itself.
 BARRED_VARIABLES = ("left", "in", "closed")
-# In code a mine's number stands behind those of all vars that there may be.
-FIRST_MINE = 64
 
 
 # What rules' lines tell, for a table and the shows of a book.
 class Rules:
     def __init__(self, setting):
-        table = setting.table
-        self.table = table
+        self.table = setting.table
         self.name = ""
         self.last_sort = None
         self.counts = {"rules": 0, "var": 0, "mine": 0, "timer": 0, "signal": 0, "mode": 0, "on": 0}
-        self.names = {
-            "switch": table.switches,
-            "lamp": table.lamps,
-            "coil": table.coils,
-            "device": table.devices,
-            "show": setting.shows,
-            "variable": {},
-            "timer": {},
-            "signal": {},
-            "mode": {},
-        }
+        self.names = dict(setting.names)
+        self.names.update({"variable": {}, "timer": {}, "signal": {}, "mode": {}})
         self.starts = []
         self.handlers = []
 
@@ -57,8 +46,7 @@ def read_variable(rules, line, sort):
     known = rules.names["variable"]
     name = line.take_new(known, BARRED_VARIABLES)
     rules.starts.append(line.take_signed())
-    first = FIRST_MINE if sort == "mine" else 0
-    known[name] = first + rules.counts[sort]
+    known[name] = FIRST_VARIABLE[sort] + rules.counts[sort]
 
 
 def read_behind(rules, line, sort):

@@ -17,3 +17,9 @@ class FaultySetting(ValueError):
 class CodeTooLong(ValueError):
     def __init__(self):
         self.number = -9
+
+
+# No rules have this code.
+class NotRight(ValueError):
+    def __init__(self):
+        self.number = -5

@@ -1,9 +1,10 @@
 """The calls."""
 
 from tablerules.coding import rules_code
+from tablerules.decoding import decode
 from tablerules.fault import Fault
 from tablerules.reader import read_rules
-from tablerules.refusal import CodeTooLong, FaultySetting, TooLong
+from tablerules.refusal import CodeTooLong, FaultySetting, NotRight, TooLong
 from tablerules.setting import MOST_BYTES, read_setting
 
 RULES_FAULT = -6
@@ -37,3 +38,12 @@ def code(table, book, rules):
     except Fault:
         return [RULES_FAULT]
     return [0] + made
+
+
+def right(table, book, code):
+    """Whether some rules for the table and the book have the code."""
+    try:
+        decode(table, book, code)
+    except (TooLong, FaultySetting, NotRight) as refusal:
+        return [refusal.number]
+    return [0]

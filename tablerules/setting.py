@@ -9,11 +9,17 @@ MOST_TABLE_BYTES = 16384
 MOST_BYTES = 65536
 
 
-# A table, and the numbers of the shows by their names.
+# A table, and of each sort that it and a book have the numbers (or places) by the names.
 class Setting:
     def __init__(self, table, shows):
         self.table = table
-        self.shows = shows
+        self.names = {
+            "switch": table.switches,
+            "lamp": table.lamps,
+            "coil": table.coils,
+            "device": table.devices,
+            "show": shows,
+        }
 
 
 def read_setting(table, book, third):

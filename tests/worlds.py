@@ -41,7 +41,22 @@ def bare_world():
     return World({"s": 7}, {}, {"c": (3, 300, False)}, ["d"], [], table, "")
 
 
+def small_world():
+    """A few of everything."""
+    table = """table t balls 1
+switch s at 1 close 1 open 1
+switch u at 3 close 1 open 1
+lamp l at 2
+coil c at 0 most 300 rest 1
+coil h at 4 most 2 rest 1 hold 1
+device d by c holds s drain
+"""
+    return World({"s": 1, "u": 3}, {"l": 2}, {"c": (0, 300, False), "h": (4, 2, True)}, ["d"], ["w", "x"], table,
+                 "show w on l\nstep 1\nshow x on l\nstep 1\n")
+
+
 FULL = full_world()
+SMALL = small_world()
 BARE = bare_world()
 DEMO = World(
     {"trough_a": 0, "trough_b": 1, "trough_c": 2, "bumper": 10, "lane": 11, "in": 63},

@@ -1,0 +1,28 @@
+"""What a right code stands for."""
+
+from tablerules.coding import rules_code
+from tablerules.fault import Fault
+from tablerules.reader import read_rules
+from tablerules.refusal import NotRight
+from tablerules.setting import read_setting
+from tablerules.telling import tell_text
+
+
+# The bytes of a right code's text, and the rules that are read from it.
+class Decoded:
+    def __init__(self, text, rules):
+        self.text = text
+        self.rules = rules
+
+
+def decode(table, book, code):
+    """What a right code stands for: it's right if the text that it tells is right and has it."""
+    setting = read_setting(table, book, code)
+    text = tell_text(setting, code)
+    try:
+        rules = read_rules(setting, text)
+    except Fault:
+        raise NotRight() from None
+    if rules_code(rules) != code:
+        raise NotRight()
+    return Decoded(text, rules)
