@@ -47,3 +47,12 @@ def right(table, book, code):
     except (TooLong, FaultySetting, NotRight) as refusal:
         return [refusal.number]
     return [0]
+
+
+def text(table, book, code):
+    """The text of the rules for the table and the book that have the code."""
+    try:
+        decoded = decode(table, book, code)
+    except (TooLong, FaultySetting, NotRight) as refusal:
+        return [refusal.number]
+    return [0] + decoded.text
