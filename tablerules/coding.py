@@ -10,9 +10,14 @@ NAMED_ONLY = ("timer", "signal", "mode")
 FIRST_VARIABLE = {"var": 0, "mine": 64}
 
 
+def name_bytes(name):
+    """The bytes of a name by itself."""
+    return [ord(sign) for sign in name]
+
+
 def name_code(name):
-    """The bytes of a name."""
-    return [ord(sign) for sign in name] + [0] * (NAME_BYTES - len(name))
+    """The bytes of a name as it stands in code."""
+    return name_bytes(name) + [0] * (NAME_BYTES - len(name))
 
 
 def number_code(number, count):

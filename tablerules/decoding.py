@@ -1,6 +1,6 @@
 """What a right code stands for."""
 
-from tablerules.coding import rules_code
+from tablerules.coding import name_bytes, rules_code
 from tablerules.fault import Fault
 from tablerules.reader import read_rules
 from tablerules.refusal import NotRight
@@ -26,3 +26,21 @@ def decode(table, book, code):
     if rules_code(rules) != code:
         raise NotRight()
     return Decoded(text, rules)
+
+
+def names_of_sort(rules, sort):
+    """The names that rules have of a sort, in the text's order."""
+    variables = list(rules.names["variable"])
+    if sort == "var":
+        return variables[:rules.counts["var"]]
+    if sort == "mine":
+        return variables[rules.counts["var"]:]
+    return list(rules.names[sort])
+
+
+def number_of(rules, sort, name):
+    """The number within its sort of a name, told by its bytes; None if the sort hasn't it."""
+    for number, known in enumerate(names_of_sort(rules, sort)):
+        if name_bytes(known) == name:
+            return number
+    return None

@@ -1,12 +1,14 @@
 """The calls."""
 
-from tablerules.coding import rules_code
-from tablerules.decoding import decode
+from tablerules.coding import COUNTED, rules_code
+from tablerules.decoding import decode, number_of
 from tablerules.fault import Fault
 from tablerules.reader import read_rules
 from tablerules.refusal import CodeTooLong, FaultySetting, NotRight, TooLong
 from tablerules.setting import MOST_BYTES, read_setting
 
+NO_SORT = -1
+NO_SUCH_NAME = -4
 RULES_FAULT = -6
 
 
@@ -56,3 +58,17 @@ def text(table, book, code):
     except (TooLong, FaultySetting, NotRight) as refusal:
         return [refusal.number]
     return [0] + decoded.text
+
+
+def find(sort, table, book, code, name):
+    """The number that the name has within its sort (0 var, 1 mine, 2 timer, 3 signal, 4 mode) in the code."""
+    try:
+        decoded = decode(table, book, code)
+    except (TooLong, FaultySetting, NotRight) as refusal:
+        return [refusal.number]
+    if sort >= len(COUNTED):
+        return [NO_SORT]
+    number = number_of(decoded.rules, COUNTED[sort], name)
+    if number is None:
+        return [NO_SUCH_NAME]
+    return [0, number]
