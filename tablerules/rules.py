@@ -72,3 +72,12 @@ def find(sort, table, book, code, name):
     if number is None:
         return [NO_SUCH_NAME]
     return [0, number]
+
+
+def sizes(table, book, code):
+    """How many vars, mines, timers, signals, modes and handlers the code has."""
+    try:
+        decoded = decode(table, book, code)
+    except (TooLong, FaultySetting, NotRight) as refusal:
+        return [refusal.number]
+    return [0] + [decoded.rules.counts[sort] for sort in COUNTED] + [len(decoded.rules.handlers)]
